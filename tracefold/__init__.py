@@ -1,0 +1,1 @@
+"""Tracefold: hot loops written down as straight rows."""
