@@ -10,6 +10,16 @@ FUNCTIONS = {
         "stepped": ["rows", "place", "names"],
         "plain": ["rows", "most"],
     },
+    "tracefold.traces": {
+        "written": ["rows", "start", "names", "most"],
+        "round_of": ["trace", "names"],
+    },
+    "tracefold.known": {"known": ["trace"]},
+    "tracefold.needed": {"needed": ["trace"]},
+    "tracefold.folding": {
+        "shortened": ["trace"],
+        "folded": ["rows", "hot", "most"],
+    },
 }
 CLASSES = {"tracefold.errors": ["FoldError", "NoRow", "NoPlace"]}
 

@@ -14,13 +14,18 @@ def outcome(word, one, other):
     return 1 if one < other else 0
 
 
+def held(source, names):
+    """What a source is: what a name holds, or, as in a trace, a number as it stands."""
+    return source if isinstance(source, int) else names[source]
+
+
 def number_for(row, names):
     """The number that a row lets its name hold."""
     if row[0] == "put":
         return row[2]
     if row[0] == "copy":
-        return names[row[2]]
-    return outcome(row[0], names[row[2]], names[row[3]])
+        return held(row[2], names)
+    return outcome(row[0], held(row[2], names), held(row[3], names))
 
 
 def do_step(row, place, names, told):
